@@ -1,0 +1,1 @@
+"""What was seen of loose leaves, and how they may have lain."""
