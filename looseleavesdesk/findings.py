@@ -38,7 +38,7 @@ def judge(t):
         return [TOO_LONG]
     try:
         seen = read_findings(t)
-    except Fault as fault:
+    except FindingsFault as fault:
         return [FINDINGS_AT_FAULT, fault.place]
     return [len(seen.findings)]
 
@@ -49,17 +49,24 @@ def book(t, u):
         return [TOO_LONG]
     try:
         seen = read_findings(t)
-    except Fault as fault:
+    except FindingsFault as fault:
         return [FINDINGS_AT_FAULT, fault.place]
     try:
         gatherings = read_book(u, seen.leaves)
-    except Fault as fault:
+    except BookFault as fault:
         return [BOOK_AT_FAULT, fault.place]
     return [len(gatherings)]
 
 
-class Fault(Exception):
-    """A text is at fault at this place; the call that reads the text knows which refusal that is."""
+class FindingsFault(Exception):
+    """A text of findings is at fault at this place."""
+
+    def __init__(self, place):
+        self.place = place
+
+
+class BookFault(Exception):
+    """A text of a book is at fault at this place."""
 
     def __init__(self, place):
         self.place = place
@@ -68,9 +75,16 @@ class Fault(Exception):
 class Reader:
     """Goes through a text once, byte by byte, and leaves it as it is."""
 
-    def __init__(self, text):
+    def __init__(self, text, of_book):
         self.text = text
+        self.of_book = of_book
         self.place = 0
+
+    def fail(self, place):
+        """Ends the reading. Both texts have numbers and letters, but each text has a refusal of its own."""
+        if self.of_book:
+            raise BookFault(place)
+        raise FindingsFault(place)
 
     def byte(self):
         """The byte that stands here, or END."""
@@ -86,7 +100,7 @@ class Reader:
         """Goes behind the byte that stands here and gives it back; only those allowed can stand."""
         found = self.byte()
         if found not in allowed:
-            raise Fault(self.place)
+            self.fail(self.place)
         self.step()
         return found
 
@@ -97,11 +111,11 @@ class Reader:
         while ZERO <= self.byte() <= NINE:
             # A worth of 0 behind a digit means that the number began with 0 and so has ended.
             if self.place == start + MOST_DIGITS or (self.place > start and worth == 0):
-                raise Fault(self.place)
+                self.fail(self.place)
             worth = worth * 10 + self.byte() - ZERO
             self.step()
         if self.place == start:
-            raise Fault(start)
+            self.fail(start)
         return worth
 
 
@@ -118,7 +132,7 @@ def read_number(reader, least, most):
     start = reader.place
     number = reader.number()
     if number < least or number > most:
-        raise Fault(start)
+        reader.fail(start)
     return number
 
 
@@ -135,13 +149,13 @@ def read_side(reader, leaves):
 
 def read_findings(text):
     """The Findings that the text tells."""
-    reader = Reader(text)
+    reader = Reader(text, False)
     leaves = read_number(reader, 1, MOST_LEAVES)
     reader.need((LINE_FEED,))
     findings = []
     while reader.byte() != END:
         if len(findings) == MOST_FINDINGS:
-            raise Fault(reader.place)
+            reader.fail(reader.place)
         findings.append(read_finding(reader, leaves))
     return Findings(leaves, findings)
 
@@ -171,7 +185,7 @@ def read_rising(reader, leaves):
         start = reader.place
         part = read_number(reader, 1, leaves) if sign == LETTER_O else read_side(reader, leaves)
         if len(parts) > 0 and part <= parts[-1]:
-            raise Fault(start)
+            reader.fail(start)
         parts.append(part)
     return (sign, tuple(parts))
 
@@ -193,7 +207,7 @@ def read_behind_leaf(reader, leaves, leaf):
     start = reader.place
     other = read_number(reader, 0 if sign == EQUAL else 1, leaves)
     if other == leaf:
-        raise Fault(start)
+        reader.fail(start)
     return (sign, (leaf, other))
 
 
@@ -208,13 +222,13 @@ def read_behind_side(reader, leaves, side):
     other = read_side(reader, leaves)
     # The two sides of one leaf can follow one another, but never face one another.
     if other == side or (sign == BAR and other // 2 == side // 2):
-        raise Fault(start)
+        reader.fail(start)
     return (sign, (side, other))
 
 
 def read_book(text, leaves):
     """The book's gatherings in order, each a list of its leaves as read_lying_leaf gives them."""
-    reader = Reader(text)
+    reader = Reader(text, True)
     gatherings = [[]]
     placed = {}
     waiting = 0
@@ -229,7 +243,7 @@ def read_book(text, leaves):
             waiting -= 1
         gatherings[-1].append(lying)
     if waiting > 0 or reader.byte() != END:
-        raise Fault(reader.place)
+        reader.fail(reader.place)
     return gatherings
 
 
@@ -240,7 +254,7 @@ def read_whether_gathering_ends(reader, waiting):
     if reader.byte() != SLASH:
         return False
     if waiting > 0:
-        raise Fault(blank)
+        reader.fail(blank)
     reader.step()
     reader.need((BLANK,))
     return True
@@ -255,11 +269,11 @@ def read_lying_leaf(reader, leaves, placed, waiting):
         reader.step()
     number = reader.number()
     if number < 1 or number > leaves or number in placed:
-        raise Fault(start)
+        reader.fail(start)
     letter = read_letter(reader)
     if reader.byte() == CLOSING:
         if sign == OPENING or waiting == 0:
-            raise Fault(reader.place)
+            reader.fail(reader.place)
         sign = CLOSING
         reader.step()
     return (number, letter, sign)
