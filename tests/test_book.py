@@ -2,12 +2,8 @@
 
 import unittest
 
-from helper import Guarded, as_bytes, booked, unmarked
+from helper import Guarded, as_bytes, booked, leaves_from_1, unmarked
 from looseleavesdesk.findings import book
-
-
-def leaves_from_1(count, letter="a"):
-    return [f"{leaf}{letter}" for leaf in range(1, count + 1)]
 
 
 class Counts(unittest.TestCase):

@@ -46,6 +46,12 @@ def is_plain(node):
     return True
 
 
+def top_names(tree):
+    """The names that a file's top defines, without those that it imports."""
+    names = {node.name for node in tree.body if isinstance(node, (ast.FunctionDef, ast.ClassDef))}
+    return names | {node.targets[0].id for node in tree.body if isinstance(node, ast.Assign)}
+
+
 class Language(unittest.TestCase):
     def setUp(self):
         self.files = {path: path.read_text("utf-8") for path in sorted(PACKAGE.glob("*.py"))}
@@ -79,6 +85,30 @@ class Language(unittest.TestCase):
                 self.assertTrue(row.module.startswith(PACKAGE.name + "."), path)
                 self.assertNotIn("*", [alias.name for alias in row.names], path)
 
+    def test_what_is_drawn_from_where(self):
+        drawn = {path.stem: set() for path in self.trees}
+        defined = {path.stem: top_names(tree) for path, tree in self.trees.items()}
+        for path, tree in self.trees.items():
+            for row in walk(tree, ast.ImportFrom):
+                owner = row.module.split(".")[1]
+                drawn[path.stem].add(owner)
+                for alias in row.names:
+                    self.assertIn(alias.name, defined[owner], (path, row.lineno))
+        # A file that draws from none left is taken out; a ring would stay.
+        while drawn:
+            free = [name for name, owners in drawn.items() if not owners & set(drawn)]
+            self.assertTrue(free, drawn)
+            drawn = {name: owners for name, owners in drawn.items() if name not in free}
+
+    def test_locals_are_not_called_like_what_the_top_binds(self):
+        for path, tree in self.trees.items():
+            top = top_names(tree) | {alias.name for row in walk(tree, ast.ImportFrom) for alias in row.names}
+            for function in walk(tree, ast.FunctionDef):
+                inner = {node.id for node in walk(function, ast.Name) if isinstance(node.ctx, ast.Store)}
+                inner |= {node.arg for node in walk(function, ast.arg)}
+                inner |= {node.name for node in walk(function, ast.ExceptHandler) if node.name}
+                self.assertEqual(inner & top, set(), (path, function.name))
+
     def test_the_top_of_a_file(self):
         for path, tree in self.trees.items():
             bound = []
@@ -88,9 +118,11 @@ class Language(unittest.TestCase):
                     bound.append(node.targets[0].id)
                 elif isinstance(node, ast.Expr):
                     self.assertIs(node, tree.body[0], (path, node.lineno))
+                elif isinstance(node, ast.ImportFrom):
+                    bound.extend(alias.asname or alias.name for alias in node.names)
                 else:
-                    self.assertIsInstance(node, (ast.FunctionDef, ast.ClassDef, ast.ImportFrom), (path, node.lineno))
-                    bound.append(getattr(node, "name", None))
+                    self.assertIsInstance(node, (ast.FunctionDef, ast.ClassDef), (path, node.lineno))
+                    bound.append(node.name)
             self.assertEqual(len(bound), len(set(bound)), path)
 
     def test_statements_and_expressions(self):

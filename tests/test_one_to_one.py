@@ -1,86 +1,24 @@
 """C1: the texts that are read are just those that the definitions make, each is read as itself, and any other
 text has one fault."""
 
-import itertools
 import unittest
 
-from helper import as_bytes, booked, judged, one_byte_edits
-from looseleavesdesk.findings import read_book, read_findings
-
-
-def side_texts(leaves):
-    return [f"{leaf}{letter}" for leaf in range(1, leaves + 1) for letter in "ab"]
-
-
-def finding_texts(leaves):
-    """Every finding of so many leaves, made as the document's table tells them."""
-    sides = side_texts(leaves)
-    numbers = [str(leaf) for leaf in range(1, leaves + 1)]
-    made = [f"{side} ^" for side in sides] + [f"{leaf} = 0" for leaf in numbers]
-    for one, other in itertools.permutations(sides, 2):
-        made.append(f"{one} > {other}")
-        if one[:-1] != other[:-1]:
-            made.append(f"{one} | {other}")
-    for one, other in itertools.permutations(numbers, 2):
-        made.extend([f"{one} = {other}", f"{one} < {other}", f"{one} ~ {other}"])
-    for count in range(2, leaves + 1):
-        made.extend("o " + " ".join(some) for some in itertools.combinations(numbers, count))
-    for count in range(1, 2 * leaves + 1):
-        made.extend("h " + " ".join(some) for some in itertools.combinations(sides, count))
-    return made + ["! " + finding for finding in made]
-
-
-def paired(signs):
-    """Whether the signs of a gathering are paired: partners are taken out from within till none are left."""
-    left = "".join(signs).replace("|", "")
-    while "()" in left:
-        left = left.replace("()", "")
-    return left == ""
-
-
-def ways_to_gather(leaves):
-    """Every way to cut a row of so many leaves into gatherings, as a list of their lengths."""
-    if leaves == 0:
-        return [[]]
-    return [[first] + rest for first in range(1, leaves + 1) for rest in ways_to_gather(leaves - first)]
-
-
-def gathering_text(rows):
-    return " ".join(
-        ("(" if sign == "(" else "") + f"{leaf}{letter}" + (")" if sign == ")" else "") for leaf, letter, sign in rows
-    )
-
-
-def book_texts(leaves):
-    """Every book of so many leaves, as its text and how many gatherings it has."""
-    made = {}
-    orders = list(itertools.permutations(range(1, leaves + 1)))
-    letters = list(itertools.product("ab", repeat=leaves))
-    signs = list(itertools.product("|()", repeat=leaves))
-    for lengths in ways_to_gather(leaves):
-        starts = [sum(lengths[:k]) for k in range(len(lengths))]
-        cuts = [slice(start, start + length) for start, length in zip(starts, lengths)]
-        fitting = [some for some in signs if all(paired(some[cut]) for cut in cuts)]
-        for order, fronts, some in itertools.product(orders, letters, fitting):
-            rows = list(zip(order, fronts, some))
-            text = " / ".join(gathering_text(rows[cut]) for cut in cuts)
-            made[text] = len(lengths)
-    return made
+from helper import as_bytes, book_texts, booked, finding_texts, gathering_text, judged, one_byte_edits
+from looseleavesdesk.reading import read_book, read_findings
 
 
 def finding_written(finding):
-    negated, sign, parts = finding
-    sign = chr(sign)
+    sign = chr(finding.sign)
     if sign in "=<~o":
-        parts = [str(part) for part in parts]
+        told = [str(part) for part in finding.told]
     else:
-        parts = [f"{part // 2}{'ab'[part % 2]}" for part in parts]
-    words = [sign] + parts if sign in "oh" else parts[:1] + [sign] + parts[1:]
-    return ("", "! ")[negated] + " ".join(words)
+        told = [f"{part // 2}{'ab'[part % 2]}" for part in finding.told]
+    words = [sign] + told if sign in "oh" else told[:1] + [sign] + told[1:]
+    return ("! " if finding.negated else "") + " ".join(words)
 
 
 def book_written(gatherings):
-    rows = [[(number, "ab"[letter], chr(sign)) for number, letter, sign in lying] for lying in gatherings]
+    rows = [[(leaf.number, "ab"[leaf.front], chr(leaf.sign)) for leaf in lying] for lying in gatherings]
     return " / ".join(gathering_text(some) for some in rows)
 
 

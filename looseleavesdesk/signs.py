@@ -1,0 +1,20 @@
+"""The bytes that stand in the texts, by name."""
+
+LINE_FEED = 10
+BLANK = 32
+BANG = 33
+OPENING = 40
+CLOSING = 41
+SLASH = 47
+ZERO = 48
+NINE = 57
+LESS = 60
+EQUAL = 61
+GREATER = 62
+CARET = 94
+LETTER_A = 97
+LETTER_B = 98
+LETTER_H = 104
+LETTER_O = 111
+BAR = 124
+TILDE = 126
