@@ -47,3 +47,26 @@ def holds(k, t, u):
     if k >= len(case.findings):
         return [NONE_SUCH]
     return [1 if finding_holds(case.findings[k], Lying(case.gatherings)) else 0]
+
+
+def leaf(l, t, u):
+    """How many leaves lie before leaf l, its gathering from 0, its partner or 0, and 1 if its side b is in front."""
+    try:
+        case = read_case(t, u)
+    except (TooLong, FindingsFault, BookFault) as refusal:
+        return refusal.answer[:1]
+    if l < 1 or l > case.leaves:
+        return [NONE_SUCH]
+    lying = Lying(case.gatherings)
+    front = 0 if lying.is_front(2 * l) else 1
+    return [lying.leaf_place(l), lying.gathering_numbers[l], lying.partners[l], front]
+
+
+def sides(t, u):
+    """How many sides the book u has, then these in order, each as twice its leaf's number, and 1 more for side b."""
+    try:
+        case = read_case(t, u)
+    except (TooLong, FindingsFault, BookFault) as refusal:
+        return refusal.answer[:1]
+    in_order = Lying(case.gatherings).sides_in_order
+    return [len(in_order)] + in_order
