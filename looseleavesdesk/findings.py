@@ -3,6 +3,8 @@
 from looseleavesdesk.holding import finding_holds
 from looseleavesdesk.lying import Lying
 from looseleavesdesk.reading import BookFault, FindingsFault, TooLong, read_case, read_seen
+from looseleavesdesk.turning import turned_book, turned_finding
+from looseleavesdesk.writing import write_book, write_findings
 
 NONE_SUCH = -4
 
@@ -70,3 +72,23 @@ def sides(t, u):
         return refusal.answer[:1]
     in_order = Lying(case.gatherings).sides_in_order
     return [len(in_order)] + in_order
+
+
+def turn(t):
+    """How many bytes the text of the findings turned has, then these."""
+    try:
+        seen = read_seen(t)
+    except (TooLong, FindingsFault) as refusal:
+        return refusal.answer[:1]
+    text = write_findings(seen.leaves, [turned_finding(finding) for finding in seen.findings])
+    return [len(text)] + text
+
+
+def back(t, u):
+    """How many bytes the text of the book u turned has, then these."""
+    try:
+        case = read_case(t, u)
+    except (TooLong, FindingsFault, BookFault) as refusal:
+        return refusal.answer[:1]
+    text = write_book(turned_book(case.gatherings))
+    return [len(text)] + text
